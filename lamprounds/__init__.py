@@ -1,0 +1,1 @@
+"""Rounds along an endless street of lamps."""
