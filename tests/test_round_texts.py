@@ -53,8 +53,8 @@ WRONG = (
     # lamps and dark
     "levels 3 end 5 lamps", "levels 3 end 5 lamps ", "levels 3 end 5 lamps dark", "levels 3 end 5 dark 0:1",
     "levels 3 end 5 dark lamps 0:1", "levels 3 end 5 lamps 0:1 dark", "levels 3 end 5 0:1", "levels 3 end 5 dark dark",
-    "levels 3 end 5 lamps lamps 0:1", "levels 3 end 5 lamps 0:1 lamps 2:1", "levels 3 end 5 lamps 0", "levels 3 end 5"
-    " lamps :", "levels 3 end 5 lamps :1", "levels 3 end 5 lamps 0:", "levels 3 end 5 lamps 0:1:1",
+    "levels 3 end 5 lamps lamps 0:1", "levels 3 end 5 lamps 0:1 lamps 2:1", "levels 3 end 5 lamps 0",
+    "levels 3 end 5 lamps :", "levels 3 end 5 lamps :1", "levels 3 end 5 lamps 0:", "levels 3 end 5 lamps 0:1:1",
     "levels 3 end 5 lamps 0::1", "levels 3 end 5 lamps 0;1", "levels 3 end 5 lamps 0:1,2:1",
     "levels 3 end 5 lamps 0:1 2", "levels 3 end 5 lamps (0, 1)",
     # words left out, twice, in another order or written otherwise
@@ -62,8 +62,8 @@ WRONG = (
     "levels 3 3 end 5 dark", "levels 3 end end 5 dark", "levels 3 end 5 5 dark", "levels 3 end 5 dark levels 3 end 5",
     "end 5 levels 3 dark", "levels 3 dark end 5", "dark levels 3 end 5", "lamps 0:1 levels 3 end 5",
     "levels 3 lamps 0:1 end 5", "end 3 levels 5 dark", "Levels 3 end 5 dark", "levels 3 End 5 dark",
-    "levels 3 end 5 Dark", "LEVELS 3 END 5 DARK", "level 3 end 5 dark", "levels 3 ends 5 dark", "levels 3 end 5 lamp 0:1",
-    "levels 3 end 5 Lamps 0:1", "levels 3 end 5 darker", "levels: 3 end: 5 dark", "levels=3 end=5 dark",
+    "levels 3 end 5 Dark", "LEVELS 3 END 5 DARK", "level 3 end 5 dark", "levels 3 ends 5 dark",
+    "levels 3 end 5 lamp 0:1", "levels 3 end 5 Lamps 0:1", "levels 3 end 5 darker", "levels: 3 end: 5 dark", "levels=3 end=5 dark",
     "levels 3 end 5 light", "Round of 0 lamps",
 )
 
