@@ -63,8 +63,8 @@ WRONG = (
     "end 5 levels 3 dark", "levels 3 dark end 5", "dark levels 3 end 5", "lamps 0:1 levels 3 end 5",
     "levels 3 lamps 0:1 end 5", "end 3 levels 5 dark", "Levels 3 end 5 dark", "levels 3 End 5 dark",
     "levels 3 end 5 Dark", "LEVELS 3 END 5 DARK", "level 3 end 5 dark", "levels 3 ends 5 dark",
-    "levels 3 end 5 lamp 0:1", "levels 3 end 5 Lamps 0:1", "levels 3 end 5 darker", "levels: 3 end: 5 dark", "levels=3 end=5 dark",
-    "levels 3 end 5 light", "Round of 0 lamps",
+    "levels 3 end 5 lamp 0:1", "levels 3 end 5 Lamps 0:1", "levels 3 end 5 darker", "levels: 3 end: 5 dark",
+    "levels=3 end=5 dark", "levels 3 end 5 light", "Round of 0 lamps",
 )
 
 
