@@ -1,20 +1,87 @@
-"""The document's examples."""
+"""The document's examples, and those of the README."""
 
+import pathlib
 import unittest
 
 from helpers import outcome
-from lamprounds.errors import InvalidLamps
+from lamprounds.doing import level_after, often, order, then, undone
+from lamprounds.errors import InvalidLamps, InvalidRounds, TooMany
+from lamprounds.likeness import alike, commute, is_alike, root
+from lamprounds.lots import Lot
 from lamprounds.rounds import Round
+from lamprounds.walks import least_walk, steps, walked
+
+README = pathlib.Path(__file__).resolve().parent.parent / "README.md"
 
 
-class Rounds(unittest.TestCase):
+class Examples(unittest.TestCase):
+    def setUp(self):
+        self.one = Round(2, ((0, 1),), 1)
+        self.far = Round.read("levels 3 end -2 lamps -1:2 5:1")
+
     def test_rounds(self):
-        one = Round(2, ((0, 1),), 1)
-        far = Round.read("levels 3 end -2 lamps -1:2 5:1")
+        one, far = self.one, self.far
         self.assertEqual(
             [one.text, far.lamps, far.end, len(far), repr(one), Round(3, (), 0).text, bool(Round(3, (), 0))],
             ["levels 2 end 1 lamps 0:1", ((-1, 2), (5, 1)), -2, 2, "Round of 1 lamps", "levels 3 end 0 dark", True])
         self.assertEqual(outcome(Round, 3, ((0, 1), (1, 3)), 0), (InvalidLamps, {"index": 1}))
+
+    def test_doing(self):
+        one, far = self.one, self.far
+        self.assertEqual(
+            [then(one, one).text, undone(one).text, often(one, 3).text, often(one, -2).text,
+             then(far, undone(far)).text],
+            ["levels 2 end 2 lamps 0:1 1:1", "levels 2 end -1 lamps -1:1", "levels 2 end 3 lamps 0:1 1:1 2:1",
+             "levels 2 end -2 lamps -2:1 -1:1", "levels 3 end 0 dark"])
+        self.assertEqual(
+            [level_after(one, 10 ** 30, 5), level_after(one, 10 ** 30, 10 ** 30), level_after(one, -3, -3),
+             order(one), order(Round(3, ((4, 2),), 0)), order(Round(5, (), 0))],
+            [1, 0, 1, None, 3, 1])
+        self.assertEqual(often(Round(2, ((0, 1), (1, 1)), 1), 10 ** 20).lamps,
+                         ((0, 1), (100000000000000000000, 1)))
+        self.assertEqual(outcome(often, one, 1000), (TooMany, {"given": 1000}))
+
+    def test_walks(self):
+        one = self.one
+        self.assertEqual(
+            [walked(2, "+>") == one, walked(3, "<++>>>+<<").text, steps(one), least_walk(one),
+             steps(Round(3, ((-1, 2), (2, 1)), 0)), steps(Round(7, ((10 ** 30, 6),), 0))],
+            [True, "levels 3 end 0 lamps -1:2 2:1", 2, "+>", 9, 2000000000000000000000000000006])
+
+    def test_likeness(self):
+        one = self.one
+        self.assertEqual(
+            [alike(one, Round(2, ((5, 1),), 1)) is None, alike(one, Round(2, (), 1)),
+             is_alike(one, Round(2, ((10 ** 30, 1),), 1)), commute(one, often(one, 3)),
+             commute(one, Round(2, ((0, 1),), 0))],
+            [False, None, True, True, False])
+        self.assertEqual(
+            [root(often(one, 3), 3).text, root(Round(2, ((0, 1),), 2), 2), root(Round(3, ((0, 1),), 0), 2).text,
+             root(Round(3, ((0, 1),), 0), 3)],
+            ["levels 2 end 1 lamps 0:1", None, "levels 3 end 0 lamps 0:2", None])
+
+    def test_lots(self):
+        one = self.one
+        full = Lot((Round(2, (), 1), Round(2, ((0, 1),), 0)))
+        pairs = Lot.read("levels 2 end 2 dark\nlevels 2 end 0 lamps 0:1 1:1")
+        threes = Lot((one, Round(2, (), 3)))
+        self.assertEqual(
+            [len(pairs), repr(pairs), pairs.levels, pairs.changed(((1, ""),)).text, full.text],
+            [2, "Lot of 2 rounds", 2, "levels 2 end 2 dark", "levels 2 end 1 dark\nlevels 2 end 0 lamps 0:1"])
+        self.assertEqual(threes.text, "levels 2 end 1 lamps 0:1\nlevels 2 end 3 dark")
+        self.assertEqual(outcome(Lot, (one, Round(2, ((25, 1),), 0))), (InvalidRounds, {"index": 1}))
+
+    def test_readme(self):
+        block = README.read_text(encoding="ascii").split("```")[1]
+        names = {}
+        for example in block.split(">>> ")[1:]:
+            code, _, printed = example.strip().partition("\n")
+            with self.subTest(code=code):
+                if printed:
+                    self.assertEqual(repr(eval(code, names)), printed)
+                else:
+                    exec(code, names)
+        self.assertIn("lot", names)
 
 
 if __name__ == "__main__":

@@ -39,10 +39,16 @@ DEFINED = {
                "InvalidChanges", "InvalidWishes", "WrongName", "UnknownName", "InUse", "NotPossible", "OtherLevels",
                "TooMany", "TooFar", "NothingToUndo", "Broken"},
     "rounds": {"Round"},
+    "doing": {"then", "undone", "often", "level_after", "order"},
+    "walks": {"walked", "steps", "least_walk"},
+    "likeness": {"is_alike", "alike", "root", "commute"},
+    "lots": {"Lot"},
 }
 METHODS_OF_CLASSES = {
     ("rounds", "Round"): {"__init__", "read", "levels", "lamps", "end", "text", "__eq__", "__len__", "__str__",
                           "__repr__", "__bool__"},
+    ("lots", "Lot"): {"__init__", "read", "rounds", "levels", "text", "changed", "__eq__", "__len__", "__str__",
+                      "__repr__"},
 }
 
 
@@ -127,6 +133,25 @@ class Code(unittest.TestCase):
                     values = {target.id for one in tree_there.body if isinstance(one, ast.Assign)
                               for target in one.targets}
                     self.assertLessEqual(names, definitions(tree_there) | values)
+
+    def test_no_two_files_import_from_each_other(self):
+        below = {path.stem: {node.module.partition(".")[2] for node in ast.walk(tree)
+                             if isinstance(node, ast.ImportFrom) and node.module.startswith("lamprounds.")}
+                 for path, tree in parsed().items()}
+        while below:
+            first = [name for name, others in below.items() if not others & set(below)]
+            self.assertTrue(first, below)
+            below = {name: others for name, others in below.items() if name not in first}
+
+    def test_no_local_name_is_that_of_an_import_or_a_class(self):
+        for path, tree in parsed().items():
+            taken = {alias.name for node in ast.walk(tree) if isinstance(node, ast.ImportFrom) for alias in node.names}
+            taken |= {node.name for node in tree.body if isinstance(node, ast.ClassDef)}
+            given = {node.id for node in ast.walk(tree)
+                     if isinstance(node, ast.Name) and not isinstance(node.ctx, ast.Load)}
+            given |= {node.arg for node in ast.walk(tree) if isinstance(node, ast.arg)}
+            with self.subTest(path=path):
+                self.assertEqual(given & taken, set())
 
     def test_each_import_is_used(self):
         for path, tree in parsed().items():
