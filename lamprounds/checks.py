@@ -1,7 +1,8 @@
 """The errors that several functions raise for their arguments."""
 
-from lamprounds.errors import InvalidLevels, InvalidNumber, NotRound, OtherLevels, TooFar
+from lamprounds.errors import InvalidLevels, InvalidNumber, NotLot, NotRound, OtherLevels, TooFar
 from lamprounds.limits import MOST_NEAR
+from lamprounds.lots import Lot
 from lamprounds.rounds import Round
 from lamprounds.values import is_integer, is_levels
 
@@ -32,8 +33,23 @@ def check_rounds(trip, second):
         raise OtherLevels(second.levels)
 
 
+def check_lot(value):
+    """Raise an error if a value is no lot."""
+    if not isinstance(value, Lot):
+        raise NotLot(value)
+
+
+def size_of(trip):
+    """Return the greatest size of the places and the end of a round."""
+    return max([abs(place) for place, level in trip.lamps] + [abs(trip.end)])
+
+
+def is_near(trip):
+    """Tell whether a round is near."""
+    return size_of(trip) <= MOST_NEAR
+
+
 def check_near(trip):
     """Raise an error if a round is not near."""
-    size = max([abs(place) for place, level in trip.lamps] + [abs(trip.end)])
-    if size > MOST_NEAR:
-        raise TooFar(size)
+    if not is_near(trip):
+        raise TooFar(size_of(trip))

@@ -51,3 +51,10 @@ def quotient(levels, lamps, by):
             return None
         runs.extend(found)
     return runs
+
+
+def repeated(levels, lamps, end, times):
+    """Return the picture of a round with these lamps and this end done so many times, each doing gone through."""
+    if times >= 0:
+        return total(levels, [(lamps, end * number, 1) for number in range(times)])
+    return total(levels, [(lamps, end * number, -1) for number in range(times, 0)])

@@ -1,6 +1,10 @@
-"""What counts as an integer, as levels and as a picture."""
+"""What counts as an integer, as levels, as a picture and as a name."""
 
 from lamprounds.limits import LEVELS
+
+LETTERS = "abcdefghijklmnopqrstuvwxyz"
+DIGITS = "0123456789"
+MOST_NAME = 8
 
 
 def is_integer(value):
@@ -29,3 +33,10 @@ def wrong_lamp(levels, lamps):
         if index > 0 and lamp[0] <= lamps[index - 1][0]:
             return index
     return None
+
+
+def is_name(value):
+    """Tell whether a value is a name: one to eight letters and digits, a letter first."""
+    if not isinstance(value, str) or not 1 <= len(value) <= MOST_NAME:
+        return False
+    return value[0] in LETTERS and all([sign in LETTERS + DIGITS for sign in value])

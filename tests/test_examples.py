@@ -5,10 +5,13 @@ import unittest
 
 from helpers import outcome
 from lamprounds.doing import level_after, often, order, then, undone
-from lamprounds.errors import InvalidLamps, InvalidRounds, TooMany
+from lamprounds.errors import InvalidLamps, InvalidRounds, OtherLevels, TooMany
+from lamprounds.forms import cosets, doing, form, makes, needless, plan, same, within
 from lamprounds.likeness import alike, commute, is_alike, root
 from lamprounds.lots import Lot
+from lamprounds.mends import holds, mends
 from lamprounds.rounds import Round
+from lamprounds.streets import Street
 from lamprounds.walks import least_walk, steps, walked
 
 README = pathlib.Path(__file__).resolve().parent.parent / "README.md"
@@ -18,6 +21,9 @@ class Examples(unittest.TestCase):
     def setUp(self):
         self.one = Round(2, ((0, 1),), 1)
         self.far = Round.read("levels 3 end -2 lamps -1:2 5:1")
+        self.full = Lot((Round(2, (), 1), Round(2, ((0, 1),), 0)))
+        self.pairs = Lot.read("levels 2 end 2 dark\nlevels 2 end 0 lamps 0:1 1:1")
+        self.threes = Lot((self.one, Round(2, (), 3)))
 
     def test_rounds(self):
         one, far = self.one, self.far
@@ -61,15 +67,50 @@ class Examples(unittest.TestCase):
             ["levels 2 end 1 lamps 0:1", None, "levels 3 end 0 lamps 0:2", None])
 
     def test_lots(self):
-        one = self.one
-        full = Lot((Round(2, (), 1), Round(2, ((0, 1),), 0)))
-        pairs = Lot.read("levels 2 end 2 dark\nlevels 2 end 0 lamps 0:1 1:1")
-        threes = Lot((one, Round(2, (), 3)))
+        one, full, pairs, threes = self.one, self.full, self.pairs, self.threes
         self.assertEqual(
             [len(pairs), repr(pairs), pairs.levels, pairs.changed(((1, ""),)).text, full.text],
             [2, "Lot of 2 rounds", 2, "levels 2 end 2 dark", "levels 2 end 1 dark\nlevels 2 end 0 lamps 0:1"])
         self.assertEqual(threes.text, "levels 2 end 1 lamps 0:1\nlevels 2 end 3 dark")
         self.assertEqual(outcome(Lot, (one, Round(2, ((25, 1),), 0))), (InvalidRounds, {"index": 1}))
+
+    def test_forms(self):
+        one, full, pairs, threes = self.one, self.full, self.pairs, self.threes
+        self.assertEqual(
+            [form(full), form(pairs), form(threes),
+             form(Lot((Round(3, ((0, 1), (1, 1)), 0), Round(3, ((1, 2),), 0))))],
+            [(1, (((0, 1),),), ()), (2, (((0, 1), (1, 1)),), ()), (1, (((0, 1), (1, 1), (2, 1)),), ((0, 1),)),
+             (0, (((0, 1),), ((1, 1),)), ())])
+        self.assertEqual(
+            [cosets(full), cosets(pairs), cosets(threes), makes(threes, Round(2, (), 3)),
+             makes(threes, Round(2, (), 1)), makes(pairs, Round(2, ((4, 1), (5, 1)), -6)),
+             makes(pairs, Round(2, ((1, 1), (2, 1)), 0))],
+            [1, None, 4, True, False, True, False])
+        self.assertEqual(
+            [doing(pairs, ((0, 1), (1, 1), (0, -1))).text, plan(full, Round(2, (), 0)) is None, plan(pairs, one),
+             same(full, Lot((one, Round(2, ((0, 1),), 0)))), within(pairs, full), within(full, pairs),
+             needless(Lot((one, Round(2, ((0, 1),), 0), then(one, one))))],
+            ["levels 2 end 0 lamps 2:1 3:1", False, None, True, True, False, (2,)])
+
+    def test_mends(self):
+        one, far, full, pairs, threes = self.one, self.far, self.full, self.pairs, self.threes
+        self.assertEqual(
+            [holds(full, ("makes", one.text)), holds(pairs, ("misses", one.text)), holds(threes, ("cosets", 4)),
+             holds(threes, ("cosets", 3)), holds(pairs, ("cosets", 10 ** 9)), holds(pairs, ("step", 2)),
+             holds(full, ("makes", far.text))],
+            [True, True, True, False, False, True, False])
+        self.assertEqual(
+            mends(pairs, (("makes", one.text),), ((0, "levels 2 end 1 dark"), (1, "levels 2 end 0 lamps 0:1"),
+                                                  (1, "levels 2 end 1 lamps 0:1"), (0, ""))),
+            ((2,), (0, 1)))
+
+    def test_streets(self):
+        one, street = self.one, Street(2)
+        self.assertEqual(
+            [street.do(one), street.do(one), street.lamps, street.do(undone(one)), street.lamps, len(street),
+             street.undo(), street.place, street.trip.text, street.tried(len)],
+            [1, 2, ((0, 1), (1, 1)), 1, ((0, 1),), 3, None, 2, "levels 2 end 2 lamps 0:1 1:1", 2])
+        self.assertEqual(outcome(street.do, self.far), (OtherLevels, {"given": 3}))
 
     def test_readme(self):
         block = README.read_text(encoding="ascii").split("```")[1]

@@ -43,12 +43,17 @@ DEFINED = {
     "walks": {"walked", "steps", "least_walk"},
     "likeness": {"is_alike", "alike", "root", "commute"},
     "lots": {"Lot"},
+    "forms": {"form", "cosets", "makes", "plan", "doing", "same", "within", "needless"},
+    "mends": {"holds", "mends"},
+    "streets": {"Street"},
 }
 METHODS_OF_CLASSES = {
     ("rounds", "Round"): {"__init__", "read", "levels", "lamps", "end", "text", "__eq__", "__len__", "__str__",
                           "__repr__", "__bool__"},
     ("lots", "Lot"): {"__init__", "read", "rounds", "levels", "text", "changed", "__eq__", "__len__", "__str__",
                       "__repr__"},
+    ("streets", "Street"): {"__init__", "do", "undo", "levels", "place", "lamps", "done", "trip", "__len__", "__bool__",
+                            "trial", "tried"},
 }
 
 
