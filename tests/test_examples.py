@@ -4,9 +4,13 @@ import pathlib
 import unittest
 
 from helpers import outcome
+from lamprounds.certificates import certify_alike, certify_made, certify_root, certify_same, certify_steps
+from lamprounds.checker import accepts
+from lamprounds.consoles import Console
 from lamprounds.doing import level_after, often, order, then, undone
-from lamprounds.errors import InvalidLamps, InvalidRounds, OtherLevels, TooMany
+from lamprounds.errors import Broken, InvalidLamps, InvalidRounds, OtherLevels, TooMany
 from lamprounds.forms import cosets, doing, form, makes, needless, plan, same, within
+from lamprounds.libraries import Library
 from lamprounds.likeness import alike, commute, is_alike, root
 from lamprounds.lots import Lot
 from lamprounds.mends import holds, mends
@@ -111,6 +115,41 @@ class Examples(unittest.TestCase):
              street.undo(), street.place, street.trip.text, street.tried(len)],
             [1, 2, ((0, 1), (1, 1)), 1, ((0, 1),), 3, None, 2, "levels 2 end 2 lamps 0:1 1:1", 2])
         self.assertEqual(outcome(street.do, self.far), (OtherLevels, {"given": 3}))
+
+    def test_consoles(self):
+        console = Console()
+        lines = ("round a levels 2 end 1 lamps 0:1", "round b levels 2 end 3 dark", "steps a", "order a",
+                 "level a 100 99", "made b a", "cosets a b", "cosets a", "alike a b")
+        self.assertEqual([console.do(line) for line in lines],
+                         ["put", "put", "2", "none", "1", "no", "4", "endless", "no"])
+        lines = ("made a b z", "round c levels 4 end 0 dark", "drop a", "steps a", "undo", "cosets a a a a a")
+        self.assertEqual([console.do(line) for line in lines] + [console.names],
+                         ["no such round", "no round", "dropped", "no such round", "undone", "no lot", ("a", "b")])
+
+    def test_libraries(self):
+        library = Library()
+        library["all"] = self.full
+        library.wish("all", ("cosets", 1))
+        self.assertEqual([library.names, library.wishes, library.changes, "all" in library],
+                         [("all",), (("all", ("cosets", 1)),), 2, True])
+        self.assertEqual(outcome(lambda: library.__setitem__("all", self.pairs)), (Broken, {"index": 0}))
+
+    def test_checker_and_certificates(self):
+        one, full, pairs, threes = self.one, self.full, self.pairs, self.threes
+        found = (certify_made(threes, Round(2, (), 3)), certify_made(pairs, one), certify_same(full, full),
+                 certify_alike(one, Round(2, ((5, 1),), 1)), certify_root(often(one, 3), 3), certify_steps(one))
+        self.assertEqual(
+            [[accepts(*pair) for pair in found], [pair[0][0] for pair in found], found[4][1], found[5],
+             certify_alike(one, Round(2, (), 1)), certify_same(full, pairs)],
+            [[True, True, True, True, True, True], ["makes", "misses", "same", "alike", "root", "steps"],
+             "levels 2 end 1 lamps 0:1", (("steps", "levels 2 end 1 lamps 0:1", 2), "+>"), None, None])
+        self.assertEqual(
+            [accepts(("makes", pairs.text, "levels 2 end 0 lamps 2:1 3:1"), ((0, 1), (1, 1), (0, -1))),
+             accepts(("misses", pairs.text, one.text), (2, (((0, 1), (1, 1)),), ())),
+             accepts(("misses", pairs.text, one.text), (1, (((0, 1),),), ())),
+             accepts(("alike", one.text, "levels 2 end 1 lamps 5:1"), "levels 2 end 5 dark"),
+             accepts(("steps", one.text, 4), "<>+>")],
+            [True, True, False, True, True])
 
     def test_readme(self):
         block = README.read_text(encoding="ascii").split("```")[1]

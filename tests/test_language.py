@@ -46,6 +46,10 @@ DEFINED = {
     "forms": {"form", "cosets", "makes", "plan", "doing", "same", "within", "needless"},
     "mends": {"holds", "mends"},
     "streets": {"Street"},
+    "consoles": {"Console"},
+    "libraries": {"Library"},
+    "checker": {"accepts"},
+    "certificates": {"certify_made", "certify_same", "certify_alike", "certify_root", "certify_steps"},
 }
 METHODS_OF_CLASSES = {
     ("rounds", "Round"): {"__init__", "read", "levels", "lamps", "end", "text", "__eq__", "__len__", "__str__",
@@ -54,6 +58,9 @@ METHODS_OF_CLASSES = {
                       "__repr__"},
     ("streets", "Street"): {"__init__", "do", "undo", "levels", "place", "lamps", "done", "trip", "__len__", "__bool__",
                             "trial", "tried"},
+    ("consoles", "Console"): {"__init__", "do", "names"},
+    ("libraries", "Library"): {"__init__", "__setitem__", "__getitem__", "__iter__", "remove", "wish", "lift", "undo",
+                               "names", "wishes", "changes", "__contains__", "__len__", "__bool__", "trial", "tried"},
 }
 
 
