@@ -42,7 +42,8 @@ def base_and_others(lot):
         waiting = [made for made in waiting if made[1] != 0]
         if len(waiting) < 2:
             break
-        base = waiting.pop(min([(abs(made[1]), at) for at, made in enumerate(waiting)])[1])
+        least = min([(abs(made[1]), at) for at, made in enumerate(waiting)])[1]
+        base = waiting.pop(least)
         waiting = [done_behind(lot.levels, made, base, -nearest(made[1], base[1])) for made in waiting] + [base]
     if not waiting:
         return still, others

@@ -25,7 +25,7 @@ def picture_of(lanes, step):
     return tuple(sorted(lamps))
 
 
-def add(levels, lanes, more, by, times):
+def add_moved(levels, lanes, more, by, times):
     """Add to a picture by its lanes another one, moved by so many steps and multiplied."""
     for rest, lane in more.items():
         sums = lanes.setdefault(rest, {})
@@ -52,13 +52,13 @@ def breadth(lane):
     return max(lane) - min(lane)
 
 
-def lower(levels, lanes, lead, row):
+def shorten(levels, lanes, lead, row):
     """Take a row from a picture, moved and multiplied, until its lead is less broad there than in the row."""
     last = max(row[lead])
     factor = inverse(levels, row[lead][last])
     while lead in lanes and breadth(lanes[lead]) >= breadth(row[lead]):
         number = max(lanes[lead])
-        add(levels, lanes, row, number - last, -factor * lanes[lead][number])
+        add_moved(levels, lanes, row, number - last, -factor * lanes[lead][number])
 
 
 def one_with_lead(levels, pictures, lead):
@@ -69,7 +69,7 @@ def one_with_lead(levels, pictures, lead):
         least = min([(breadth(lanes[lead]), at) for at, lanes in enumerate(having)])[1]
         row = having.pop(least)
         for lanes in having:
-            lower(levels, lanes, lead, row)
+            shorten(levels, lanes, lead, row)
         others.extend([lanes for lanes in having if lead not in lanes])
         having = [row] + [lanes for lanes in having if lead in lanes]
     return having[0], others
@@ -79,7 +79,7 @@ def scaled(levels, lanes, lead):
     """Return a picture moved and multiplied such that its lead begins at 0 and has the level 1 at its last lamp."""
     row = {}
     factor = inverse(levels, lanes[lead][max(lanes[lead])])
-    add(levels, row, lanes, -min(lanes[lead]), factor)
+    add_moved(levels, row, lanes, -min(lanes[lead]), factor)
     return row
 
 
@@ -89,10 +89,10 @@ def reduce_lead(levels, lanes, lead, row):
     factor = inverse(levels, row[lead][0])
     while lead in lanes and min(lanes[lead]) < 0:
         number = min(lanes[lead])
-        add(levels, lanes, row, number, -factor * lanes[lead][number])
+        add_moved(levels, lanes, row, number, -factor * lanes[lead][number])
     while lead in lanes and max(lanes[lead]) >= last:
         number = max(lanes[lead])
-        add(levels, lanes, row, number - last, -lanes[lead][number])
+        add_moved(levels, lanes, row, number - last, -lanes[lead][number])
 
 
 def reduce_by(levels, lanes, rows):
@@ -113,6 +113,6 @@ def rows_of(levels, pictures):
         row, others = one_with_lead(levels, having, lead)
         rows.append((lead, scaled(levels, row, lead)))
         waiting.extend([lanes for lanes in others if lanes])
-    for at in range(len(rows) - 1, -1, -1):
+    for at in range(len(rows)):
         reduce_by(levels, rows[at][1], rows[at + 1:])
     return rows

@@ -187,6 +187,31 @@ class Wrong(Case):
             self.check(claim, wrong, False)
             self.assertFalse(reference.accepts(claim, wrong), wrong)
 
+    def test_forms_that_tell_the_same_but_are_not_reduced(self):
+        # Each of these tells just what the right one tells, but some lamps are not where they are in a form.
+        claim = ("misses", "levels 3 end 2 lamps 0:1\nlevels 3 end 0 lamps 1:1 3:2", "levels 3 end 2 dark")
+        row = ((1, 2), (3, 1))
+        self.check(claim, (2, (row,), ((0, 1),)), True)
+        for rows, rest in (((row,), ((-1, 2), (0, 1), (1, 1))), ((row,), ((0, 1), (1, 2), (3, 1))),
+                           ((((-1, 2), (1, 1)),), ((0, 1),)), ((((3, 2), (5, 1)),), ((0, 1),)),
+                           ((((1, 1), (3, 2)),), ((0, 1),)), ((row, row), ((0, 1),)),
+                           ((row, ((1, 1), (3, 2))), ((0, 1),))):
+            self.check(claim, (2, rows, rest), False)
+        claim = ("misses", "levels 3 end 2 dark\nlevels 3 end 0 lamps 0:1 2:1\nlevels 3 end 0 lamps 1:2 5:1",
+                 "levels 3 end 0 lamps 1:1")
+        first, second = ((0, 1), (2, 1)), ((1, 2), (5, 1))
+        self.check(claim, (2, (first, second), ()), True)
+        for rows in ((second, first), (((-1, 2), (0, 1), (2, 1), (3, 1)), second),
+                     (((0, 1), (1, 2), (2, 1), (5, 1)), second), (((0, 1), (2, 1), (3, 2), (7, 1)), second),
+                     (((0, 1), (4, 2)), second), (first, ((1, 1), (5, 2))), (first, first, second)):
+            self.check(claim, (2, rows, ()), False)
+        claim = ("misses", "levels 3 end 0 lamps 0:1 2:1\nlevels 3 end 0 lamps 1:1", "levels 3 end 0 lamps 0:1")
+        self.check(claim, (0, (((0, 1), (2, 1)), ((1, 1),)), ()), True)
+        for rows in ((((0, 1), (1, 1), (2, 1)), ((1, 1),)), (((0, 1), (1, 2), (2, 1)), ((1, 1),)),
+                     (((1, 1),), ((0, 1), (2, 1))), (((0, 2), (2, 2)), ((1, 1),)), (((0, 1), (2, 1)), ((1, 2),)),
+                     (((0, 1), (2, 1)), ((1, 1),), ((1, 1),))):
+            self.check(claim, (0, rows, ()), False)
+
     def test_forms_without_a_step(self):
         claim = ("misses", "levels 5 end 0 lamps -3:2 4:1\nlevels 5 end 0 lamps 0:3", "levels 5 end 0 lamps -3:1")
         self.check(claim, (0, (((-3, 1), (4, 3)), ((0, 1),)), ()), True)

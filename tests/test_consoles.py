@@ -257,7 +257,7 @@ class Asking(Case):
                 self.check_steady(console, changed, "no such round" if name_behind else "no such line")
         for line in ("steps", "order", "alike", "made", "cosets", "level", "steps ", "alike a", "alike a ", "made a",
                      "made a ", "cosets ", "level a", "level a 1", "level a 1 2 3", "steps a b", "order a a", "alike a b a",
-                     "made  a b", "made a  b", "cosets  a", "cosets a  b", "level  a 1 0", "level a  1 0", "level a 1  0",
+                     "made  a b", "made a  b", "cosets  a", "cosets a  b", "level  a 1 0", "level  1 0", "level a  1 0", "level a 1  0",
                      "", " ", "\n", "a", "step a", "orders a", "make a b", "coset a", "levels a 1 0", ONE, "put", "names"):
             self.check_steady(console, line, "no such line")
 

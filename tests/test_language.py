@@ -228,6 +228,50 @@ class Code(unittest.TestCase):
                     self.assertNotRegex(word, BARRED_WORDS)
 
 
+    def test_is_and_powers(self):
+        for path, tree in parsed().items():
+            for node in ast.walk(tree):
+                with self.subTest(path=path, line=getattr(node, "lineno", 0)):
+                    self.assertNotIsInstance(node, ast.Pow)
+                    if isinstance(node, ast.Compare) and any(isinstance(op, (ast.Is, ast.IsNot)) for op in node.ops):
+                        self.assertEqual(len(node.ops), 1)
+                        self.assertIsInstance(node.comparators[0], ast.Constant)
+
+    def test_python_errors_are_not_caught(self):
+        own = definitions(ast.parse((PACKAGE / "errors.py").read_text(encoding="ascii")))
+        for path, tree in parsed().items():
+            for node in ast.walk(tree):
+                if isinstance(node, ast.ExceptHandler):
+                    caught = {name.id for name in ast.walk(node.type) if isinstance(name, ast.Name)}
+                    with self.subTest(path=path, line=node.lineno):
+                        self.assertTrue(caught)
+                        self.assertLessEqual(caught, own)
+
+    def test_ends_of_with_statements(self):
+        for path, tree in parsed().items():
+            for node in ast.walk(tree):
+                if not isinstance(node, ast.FunctionDef) or node.name != "__exit__":
+                    continue
+                self.assertEqual([arg.arg for arg in node.args.args], ["self", "kind", "value", "trace"])
+                read = {name.id for name in ast.walk(node) if isinstance(name, ast.Name)}
+                self.assertEqual(read & {"value", "trace"}, set())
+                inner = [part for part in ast.walk(node) if isinstance(part, (ast.stmt, ast.Call)) and part is not node]
+                for part in inner:
+                    with self.subTest(path=path, line=part.lineno):
+                        self.assertIsInstance(part, (ast.Assign, ast.If))
+                        if isinstance(part, ast.If):
+                            self.assertIn(ast.unparse(part.test), ("kind is None", "kind is not None"))
+
+    def test_classes_with_items(self):
+        for path, tree in parsed().items():
+            for node in ast.walk(tree):
+                if isinstance(node, ast.ClassDef):
+                    own = {part.name for part in node.body if isinstance(part, ast.FunctionDef)}
+                    with self.subTest(path=path, name=node.name):
+                        self.assertTrue("__getitem__" not in own or "__iter__" in own)
+                        self.assertNotIn("keys", own)
+
+
 class Interface(unittest.TestCase):
     def test_defined_where_it_is_listed(self):
         trees = {path.stem: tree for path, tree in parsed().items()}
